@@ -1,0 +1,1 @@
+"""Roomsay: what is said of rooms and doors."""

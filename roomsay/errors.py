@@ -1,0 +1,9 @@
+"""What the program refuses."""
+
+
+class SayError(ValueError):
+    pass
+
+
+class NoMove(SayError):
+    pass
