@@ -15,15 +15,21 @@ def has_pair(row):
     return False
 
 
-def rows_above(row, k):
-    statement = row[k]
-    if statement[0] == "every":
-        return [[statement[1]] + [other[1] for other in row if other[0] == "some"]]
+# A row may also tell its statements by numbers: `parts` has, for each place of the row,
+# the sort of the statement there and what lies within it, told in the same way as the row.
+def rows_above_by_parts(row, parts, k):
+    part = parts[k]
+    if part[0] == "every":
+        return [[part[1]] + [other[1] for other in parts if other[0] == "some"]]
     before = row[:k]
     behind = row[k + 1:]
-    if statement[0] == "or":
-        return [before + [statement[1], statement[2]] + behind]
-    return [before + [statement[1]] + behind, before + [statement[2]] + behind]
+    if part[0] == "or":
+        return [before + [part[1], part[2]] + behind]
+    return [before + [part[1]] + behind, before + [part[2]] + behind]
+
+
+def rows_above(row, k):
+    return rows_above_by_parts(row, row, k)
 
 
 def reason_fits(row, reason):

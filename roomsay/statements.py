@@ -45,57 +45,47 @@ def door_truths(world, kind, inner):
     return [True in truths_behind(doors, inner) for lit, doors in world]
 
 
-# Each part is looked at once for all rooms together: to go from room to room
-# through the doors anew for each part would take longer with every `every` and `some`.
-def truths(world, statement):
+# What is answered of a statement, from the inside out: `answer` is handed each part
+# and the answers of the statements that lie straight within it.
+def from_inside(statement, answer):
     found = []
-    # From the inside out, so the truths of what lies within a part are the last ones found.
     for part in reversed(outside_in(statement)):
-        kind = part[0]
-        if kind in LEAVES:
-            found.append(leaf_truths(world, part))
-        elif kind in JOINS:
-            second = found.pop()
-            first = found.pop()
-            found.append(join_truths(kind, first, second))
-        elif kind == "not":
-            inner = found.pop()
-            found.append([not truth for truth in inner])
-        else:
-            inner = found.pop()
-            found.append(door_truths(world, kind, inner))
+        # The answers of what lies within the part are the last ones found.
+        inner = [found.pop() for within in statements_within(part)]
+        inner.reverse()
+        found.append(answer(part, inner))
     return found.pop()
 
 
-# The parts of the plain form, each as the sort that it becomes and the part that it comes from.
-# A `not` leaves no part of its own: it only turns what lies within it.
-def plain_parts(statement):
-    parts = []
-    waiting = [(statement, False)]
-    while len(waiting) > 0:
-        taken = waiting.pop()
-        part = taken[0]
-        turned = taken[1]
-        if part[0] == "not":
-            waiting.append((part[1], not turned))
-        else:
-            kind = TURNED[part[0]] if turned else part[0]
-            parts.append((kind, part))
-            waiting.extend([(within, turned) for within in statements_within(part)])
-    return parts
+def part_truths(world, part, inner):
+    kind = part[0]
+    if kind in LEAVES:
+        return leaf_truths(world, part)
+    if kind in JOINS:
+        return join_truths(kind, inner[0], inner[1])
+    if kind == "not":
+        return [not truth for truth in inner[0]]
+    return door_truths(world, kind, inner[0])
+
+
+# Each part is looked at once for all rooms together: to go from room to room
+# through the doors anew for each part would take longer with every `every` and `some`.
+def truths(world, statement):
+    return from_inside(statement, lambda part, inner: part_truths(world, part, inner))
+
+
+# The plain form of a part and that of its `not`, made side by side,
+# since it is known only farther out which of the two is wanted.
+def plain_forms(part, inner):
+    kind = part[0]
+    if kind in LEAVES:
+        return (part, (TURNED[kind], part[1]))
+    straight = [forms[0] for forms in inner]
+    turned = [forms[1] for forms in inner]
+    if kind == "not":
+        return (turned[0], straight[0])
+    return ((kind,) + tuple(straight), (TURNED[kind],) + tuple(turned))
 
 
 def plain(statement):
-    built = []
-    # From the inside out, so what lies within a part is what was built last.
-    for kind, part in reversed(plain_parts(statement)):
-        if kind in LEAVES:
-            built.append((kind, part[1]))
-        elif kind in JOINS:
-            second = built.pop()
-            first = built.pop()
-            built.append((kind, first, second))
-        else:
-            inner = built.pop()
-            built.append((kind, inner))
-    return built.pop()
+    return from_inside(statement, plain_forms)[0]

@@ -33,6 +33,8 @@ WORDS = set(
     """type typing typing_extensions enum Enum IntEnum StrEnum Flag IntFlag Generic Protocol ABC ABCMeta
     namedtuple NamedTuple TypedDict TYPE_CHECKING abstractmethod""".split()
 )
+WALKED_AT_ONCE = ("zip", "enumerate", "reversed", "range", "items", "keys", "values")
+KEYWORDS = [("sorted", "key"), ("min", "key"), ("max", "key"), ("min", "default"), ("max", "default")]
 PARTS_OF_WORDS = ("dataclass", "overload", "contextmanager")
 
 
@@ -42,6 +44,16 @@ def tree_of(path):
 
 def is_docstring(node):
     return isinstance(node, ast.Expr) and isinstance(node.value, ast.Constant) and isinstance(node.value.value, str)
+
+
+def called(call):
+    return call.func.id if isinstance(call.func, ast.Name) else call.func.attr
+
+
+def own_methods():
+    classes = [node for path in FILES for node in tree_of(path).body if isinstance(node, ast.ClassDef)]
+    methods = {part.name for node in classes for part in node.body if isinstance(part, ast.FunctionDef)}
+    return methods - {"__init__"}
 
 
 def drawn_from(path):
@@ -124,7 +136,61 @@ class Language(unittest.TestCase):
                 self.assertNotIn(node.arg, pythons, where)
                 self.assertRegex(node.arg, r"^[A-Za-z][A-Za-z0-9_]*$", where)
             if isinstance(node, ast.Call) and isinstance(node.func, ast.Attribute):
-                self.assertIn(node.func.attr, METHODS, where)
+                self.assertIn(node.func.attr, METHODS | own_methods(), where)
+
+    def test_own_methods_and_values(self):
+        pythons = {name for kind in (str, int, list, tuple, dict, set, frozenset, bytes) for name in dir(kind)}
+        values = set()
+        for node, where in self.each_node():
+            if isinstance(node, ast.Attribute) and isinstance(node.ctx, ast.Store):
+                self.assertIsInstance(node.value, ast.Name, where)
+                self.assertEqual(node.value.id, "self", where)
+                values.add(node.attr)
+        self.assertEqual(values & own_methods(), set())
+        self.assertEqual((values | own_methods()) & pythons, set())
+        for name in values | own_methods():
+            self.assertRegex(name, r"^[a-z][a-z0-9_]*$")
+
+    def test_no_local_is_called_like_a_class_or_an_import_of_its_file(self):
+        for path in FILES:
+            tree = tree_of(path)
+            tops = {part.name for part in tree.body if isinstance(part, ast.ClassDef)}
+            tops |= {alias.name for part in tree.body if isinstance(part, ast.ImportFrom) for alias in part.names}
+            for node in ast.walk(tree):
+                if isinstance(node, ast.arg):
+                    self.assertNotIn(node.arg, tops, path)
+                if isinstance(node, ast.Name) and isinstance(node.ctx, ast.Store):
+                    self.assertNotIn(node.id, tops, path)
+
+    def test_sets_are_only_asked_on_the_spot(self):
+        for path in FILES:
+            tree = tree_of(path)
+            fine = [
+                part
+                for node in ast.walk(tree)
+                if isinstance(node, ast.Call) and called(node) in ("sorted", "len") and not node.keywords
+                for part in node.args
+            ]
+            for node in ast.walk(tree):
+                if isinstance(node, ast.Set) or (isinstance(node, ast.Call) and called(node) in ("set", "frozenset")):
+                    self.assertIn(node, fine, f"{path.name}:{node.lineno}")
+
+    def test_what_is_walked_at_once_is_not_kept(self):
+        for path in FILES:
+            tree = tree_of(path)
+            fine = [node.iter for node in ast.walk(tree) if isinstance(node, (ast.For, ast.comprehension))]
+            for node in ast.walk(tree):
+                if isinstance(node, ast.Call) and called(node) in ("list", "tuple", "dict", "sorted", "sum"):
+                    fine.extend(node.args[:1])
+            for node in ast.walk(tree):
+                if isinstance(node, ast.Call) and called(node) in WALKED_AT_ONCE:
+                    self.assertIn(node, fine, f"{path.name}:{node.lineno}")
+
+    def test_keywords(self):
+        for node, where in self.each_node():
+            if isinstance(node, ast.Call):
+                for keyword in node.keywords:
+                    self.assertIn((called(node), keyword.arg), KEYWORDS, where)
 
     def test_imports_are_the_packages_own(self):
         for node, where in self.each_node():

@@ -2,7 +2,7 @@ import copy
 import unittest
 
 from roomsay.statements import plain, truths
-from tests.samples import DEEPER, LEAVES, SHALLOW, WORLDS, kinds_in, nested, true_in
+from tests.samples import DEEPER, LEAVES, SHALLOW, WORLDS, corridor, kinds_in, nested, true_in
 
 T, F = True, False
 
@@ -13,11 +13,6 @@ HOUSE = [
     ([], [0, 1, 2, 3]),
     ([2], []),
 ]
-
-
-def corridor(length):
-    """Rooms in a row, each with one door to the next; lamp 1 is lit in the last room alone."""
-    return [([], [room + 1]) for room in range(length - 1)] + [([1], [])]
 
 
 class Truths(unittest.TestCase):
@@ -86,7 +81,7 @@ class Truths(unittest.TestCase):
 
     def test_worlds_of_forty_rooms_and_more(self):
         for length in (40, 57):
-            world = corridor(length)
+            world = corridor(length, [1])
             self.check(world, ("lamp", 1), [F] * (length - 1) + [T])
             statement = ("lamp", 1)
             for steps in range(1, length):
